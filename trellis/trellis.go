@@ -1,0 +1,88 @@
+// Package trellis: an index that is never half changed: see DOC.md.
+package trellis
+
+import (
+	"strings"
+	"sync/atomic"
+
+	"trellis/api"
+	"trellis/tree"
+)
+
+// Index keeps values by keys.
+type Index[V any] struct {
+	tree atomic.Pointer[tree.Tree[V]]
+}
+
+// Pair is a key with its value.
+type Pair[V any] struct {
+	Key   string
+	Value V
+}
+
+// New makes an index without keys (P3).
+func New[V any]() *Index[V] { return &Index[V]{} }
+
+// Put gives a key a value (P3).
+func (x *Index[V]) Put(key string, v V) (V, bool, api.Errno) {
+	var none V
+	if len(key) > api.MaxKey {
+		return none, false, api.ErrKey
+	}
+	key = strings.Clone(key) // it may be cut from a long text, which is not ours to keep
+	for {
+		old := x.tree.Load()
+		was, had := old.Get(key)
+		if !had && old.Size() >= api.MaxKeys {
+			return none, false, api.ErrFull
+		}
+		if x.tree.CompareAndSwap(old, old.With(key, v)) {
+			return was, had, api.OK
+		}
+	}
+}
+
+// Get tells a key's value (P3).
+func (x *Index[V]) Get(key string) (V, bool) { return x.tree.Load().Get(key) }
+
+// Delete takes a key away (P3).
+func (x *Index[V]) Delete(key string) (V, bool) {
+	for {
+		old := x.tree.Load()
+		was, had := old.Get(key)
+		if !had || x.tree.CompareAndSwap(old, old.Without(key)) {
+			return was, had
+		}
+	}
+}
+
+// Len tells how many keys there are (P3).
+func (x *Index[V]) Len() int { return x.tree.Load().Size() }
+
+// Shape tells of the tree (P4).
+func (x *Index[V]) Shape() api.Shape { return x.tree.Load().Shape() }
+
+// Scan goes through the keys from one to another (P5).
+func (x *Index[V]) Scan(from string, to string) func(yield func(string, V) bool) {
+	return func(yield func(string, V) bool) {}
+}
+
+// Prefix goes through the keys that begin so (P5).
+func (x *Index[V]) Prefix(p string) func(yield func(string, V) bool) {
+	return func(yield func(string, V) bool) {}
+}
+
+// Copy makes an index that has the same (P6).
+func (x *Index[V]) Copy() *Index[V] { return &Index[V]{} }
+
+// Union takes another one's keys and values (P6).
+func (x *Index[V]) Union(other *Index[V]) api.Errno { return api.OK }
+
+// Fill puts pairs (P7).
+func (x *Index[V]) Fill(parts [][]Pair[V]) api.Errno { return api.OK }
+
+// Encode makes a key of a tuple (P8).
+func Encode(schema []int, tuple []api.Value) (string, api.Errno) { return "", api.OK }
+
+// Decode makes a tuple of a key (P8).
+func Decode(schema []int, text string) ([]api.Value, api.Errno) { return nil, api.OK }
