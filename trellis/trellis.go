@@ -64,12 +64,22 @@ func (x *Index[V]) Shape() api.Shape { return x.tree.Load().Shape() }
 
 // Scan goes through the keys from one to another (P5).
 func (x *Index[V]) Scan(from string, to string) func(yield func(string, V) bool) {
-	return func(yield func(string, V) bool) {}
+	return func(yield func(string, V) bool) {
+		// Loaded in here, once: a going is through the tree of the moment when it begins, not of the one when Scan was asked.
+		x.tree.Load().Walk(from, to, yield)
+	}
 }
 
 // Prefix goes through the keys that begin so (P5).
 func (x *Index[V]) Prefix(p string) func(yield func(string, V) bool) {
-	return func(yield func(string, V) bool) {}
+	return func(yield func(string, V) bool) {
+		for key, v := range x.Scan(p, "") {
+			// What begins with p comes ahead of all else that is not ahead of p.
+			if !strings.HasPrefix(key, p) || !yield(key, v) {
+				return
+			}
+		}
+	}
 }
 
 // Copy makes an index that has the same (P6).
