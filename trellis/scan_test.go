@@ -320,6 +320,33 @@ func changes() map[string]func(x *Index[int], key string) {
 				x.Delete(other)
 			}
 		},
+		"a union with others": func(x *Index[int], key string) {
+			x.Union(state{"": -5, "a": -5, key: -5, key[:len(key)/2]: -5, key + "x": -5}.index())
+		},
+		"a union with what is left of a copy": func(x *Index[int], key string) {
+			y := x.Copy()
+			y.Put(key+"y", -6)
+			y.Put(key, -6)
+			x.Delete(key)
+			x.Union(y)
+			y.Union(x)
+		},
+		"a union with itself": func(x *Index[int], key string) {
+			x.Union(x)
+			x.Delete(key)
+			x.Union(x)
+		},
+		"a fill": func(x *Index[int], key string) {
+			x.Fill([][]Pair[int]{{{key + "z", -7}, {"", -7}}, gone(x.Scan("", "")), {{key, -7}}, {{key + "\x00", -7}}})
+		},
+		"a fill of all, in other order": func(x *Index[int], _ string) {
+			list := gone(x.Scan("", ""))
+			slices.Reverse(list)
+			for i := range list {
+				list[i].Value = -8
+			}
+			x.Fill([][]Pair[int]{list, {{"some/new", -8}}})
+		},
 		"every byte comes": func(x *Index[int], key string) {
 			for i := range 256 {
 				x.Put(key[:len(key)/2]+string([]byte{byte(i)}), -4)

@@ -83,13 +83,49 @@ func (x *Index[V]) Prefix(p string) func(yield func(string, V) bool) {
 }
 
 // Copy makes an index that has the same (P6).
-func (x *Index[V]) Copy() *Index[V] { return &Index[V]{} }
+func (x *Index[V]) Copy() *Index[V] {
+	y := New[V]()
+	y.tree.Store(x.tree.Load())
+	return y
+}
 
 // Union takes another one's keys and values (P6).
-func (x *Index[V]) Union(other *Index[V]) api.Errno { return api.OK }
+func (x *Index[V]) Union(other *Index[V]) api.Errno {
+	if x == other {
+		return api.OK // loaded twice, it might be in union with another state of its own
+	}
+	return x.change(func(old *tree.Tree[V]) *tree.Tree[V] {
+		return old.Union(other.tree.Load())
+	})
+}
 
 // Fill puts pairs (P7).
-func (x *Index[V]) Fill(parts [][]Pair[V]) api.Errno { return api.OK }
+func (x *Index[V]) Fill(parts [][]Pair[V]) api.Errno {
+	if len(parts) > api.MaxParts {
+		return api.ErrParts
+	}
+	filled, e := treeOfParts(parts)
+	if e != api.OK {
+		return e
+	}
+	return x.change(func(old *tree.Tree[V]) *tree.Tree[V] {
+		return old.Union(filled)
+	})
+}
+
+// change puts the tree that made makes of the index's one in its place, if it has not too many keys.
+func (x *Index[V]) change(made func(old *tree.Tree[V]) *tree.Tree[V]) api.Errno {
+	for {
+		old := x.tree.Load()
+		changed, e := made(old), api.OK
+		if changed.Size() > api.MaxKeys {
+			changed, e = old, api.ErrFull // swapped for itself: a refusal, too, is of a tree that is still in place
+		}
+		if x.tree.CompareAndSwap(old, changed) {
+			return e
+		}
+	}
+}
 
 // Encode makes a key of a tuple (P8).
 func Encode(schema []int, tuple []api.Value) (string, api.Errno) { return "", api.OK }
