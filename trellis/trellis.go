@@ -7,6 +7,7 @@ import (
 
 	"trellis/api"
 	"trellis/tree"
+	"trellis/tuples"
 )
 
 // Index keeps values by keys.
@@ -128,7 +129,24 @@ func (x *Index[V]) change(made func(old *tree.Tree[V]) *tree.Tree[V]) api.Errno 
 }
 
 // Encode makes a key of a tuple (P8).
-func Encode(schema []int, tuple []api.Value) (string, api.Errno) { return "", api.OK }
+func Encode(schema []int, tuple []api.Value) (string, api.Errno) {
+	if !tuples.IsSchema(schema) {
+		return "", api.ErrSchema
+	}
+	if !tuples.IsTuple(schema, tuple) {
+		return "", api.ErrTuple
+	}
+	return tuples.Code(schema, tuple), api.OK
+}
 
 // Decode makes a tuple of a key (P8).
-func Decode(schema []int, text string) ([]api.Value, api.Errno) { return nil, api.OK }
+func Decode(schema []int, text string) ([]api.Value, api.Errno) {
+	if !tuples.IsSchema(schema) {
+		return nil, api.ErrSchema
+	}
+	tuple, ok := tuples.Read(schema, text)
+	if !ok {
+		return nil, api.ErrForm
+	}
+	return tuple, api.OK
+}
